@@ -1,0 +1,1 @@
+"""messageways: messages with choices, judged for all arguments."""
