@@ -1,23 +1,13 @@
 """The diagram of a message, in a table of diagrams."""
 
 from messageways.branching import common_sizes
-from messageways.languages import Language
 from messageways.messages import cases_of, inner_messages, is_choice
-from messageways.sets import category_sets, moved, settled, stretched
+from messageways.sets import settled, stretched
 
 
-def sets_for(node, language):
-    """Return the sets of the numbers for which a plural looks for its categories."""
-    keys = [key for key, _ in cases_of(node)]
-    # The rules behind the last one that counts are left out: they could make long cycles.
-    many = max([0] + [place for place, rule in enumerate(language.rules, start=1) if rule[0] in keys])
-    sets = category_sets(Language(language.rules[:many]))
-    return {key: moved(sets[key], node[2]) for key in keys if key in sets}
-
-
-def plural_mark(joiner, node, marks, language):
+def plural_mark(joiner, node, marks, category_sets):
     """Return the mark of a plural, from the marks of its messages."""
-    sets = sets_for(node, language)
+    sets = category_sets.sets_for(node)
     head_size, cycle_size = common_sizes(list(sets.values()))
     exact = {key: mark for (key, _), mark in zip(cases_of(node), marks) if isinstance(key, int)}
     head_size = max([head_size] + [key + 1 for key in exact])
@@ -67,7 +57,7 @@ def messages_within(message):
     return found, begins
 
 
-def row_mark(joiner, message, around, inner, language):
+def row_mark(joiner, message, around, inner, category_sets):
     """Return the mark of a message, from those of the messages directly within it."""
     marks = []
     parts = []
@@ -80,7 +70,7 @@ def row_mark(joiner, message, around, inner, language):
         marks.append(joiner.table.leaf_with(parts, ()))
         parts = []
         if node[0] == "plural":
-            marks.append(plural_mark(joiner, node, inner[begin:end], language))
+            marks.append(plural_mark(joiner, node, inner[begin:end], category_sets))
         else:
             marks.append(select_mark(joiner, node, inner[begin:end]))
         begin = end
@@ -88,8 +78,8 @@ def row_mark(joiner, message, around, inner, language):
     return joiner.joined([mark for mark in marks if mark != joiner.empty])
 
 
-def message_mark(joiner, message, language):
-    """Return the mark of the diagram of a message, which is not bad, in a language."""
+def message_mark(joiner, message, category_sets):
+    """Return the mark of the diagram of a message, which is not bad, with the sets of a language."""
     found, begins = messages_within(message)
     marks = {}
     for place in range(len(found) - 1, -1, -1):
@@ -97,5 +87,5 @@ def message_mark(joiner, message, language):
         end = begins[place + 1] if place + 1 < len(begins) else len(found)
         inner = [marks[one] for one in range(begins[place], end)]
         message, around = found[place]
-        marks[place] = row_mark(joiner, message, around, inner, language)
+        marks[place] = row_mark(joiner, message, around, inner, category_sets)
     return marks[0]

@@ -2,6 +2,7 @@
 
 from messageways.branching import mark_at
 from messageways.choosing import message_mark
+from messageways.counting import CategorySets
 from messageways.joining import Joiner
 from messageways.messages import kinds_of
 from messageways.nesting import Gathered, kept, nested
@@ -14,7 +15,7 @@ def diagram_of(message, language):
     # For its error: the diagram of a bad message would have no shape.
     kinds_of(message)
     joiner = Joiner()
-    return nested(joiner.table, message_mark(joiner, message, language))
+    return nested(joiner.table, message_mark(joiner, message, CategorySets(language)))
 
 
 def restricted(diagram, name, value):

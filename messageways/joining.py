@@ -117,10 +117,14 @@ class Joiner:
         """Tell whether a diagram is another one with a value put in for a name."""
         if not self.table.is_named(name, (other,)):
             return one == other
+        return self.are_same((one, other), ((name, value),))
+
+    def are_same(self, marks, values):
+        """Tell whether two diagrams are the same with the values of names put in for them."""
         # Only compared, up to the first difference, but not built: what is built just to be
         # compared would in turn be compared with more values put in, and so on.
         seen = set()
-        ahead = [((one, other), ((name, value),))]
+        ahead = [(marks, values)]
         while ahead:
             marks, values = ahead.pop()
             values = self.table.values_for(marks, values)
