@@ -1,8 +1,8 @@
-"""Places in messages."""
+"""Places in messages, and a book of messages that can be changed there."""
 
 from messageways.contexts import keys_of
-from messageways.errors import NoSuchPlace
-from messageways.messages import inner_messages, is_choice, with_inner
+from messageways.errors import NoSuchKey, NoSuchPlace
+from messageways.messages import inner_messages, is_choice, plain, with_inner
 
 
 def place_within(message, step, path):
@@ -39,3 +39,59 @@ def replaced(message, path, inner):
         messages[at] = inner
         inner = outer[:step[0]] + [with_inner(node, messages)] + outer[step[0] + 1:]
     return inner
+
+
+class Book:
+    """Messages in plain form by keys, and the deeds that were done to them."""
+
+    def __init__(self):
+        self.kept = {}
+        # For each deed that can be undone: the key, and the message that it had before, or None.
+        self.before = []
+
+    def messages(self):
+        """Return the messages by their keys."""
+        return {key: self.kept[key] for key in sorted(self.kept)}
+
+    def keep(self, key, message):
+        """Keep a message under a key, as a deed that can be undone; none if it is None."""
+        self.before.append((key, self.kept.get(key)))
+        self.set_back(key, message)
+
+    def set_back(self, key, message):
+        """Let a key have a message, or none if it is None."""
+        if message is None:
+            del self.kept[key]
+        else:
+            self.kept[key] = message
+
+    def kept_at(self, key):
+        """Return the message under a key."""
+        if key not in self.kept:
+            raise NoSuchKey(key)
+        return self.kept[key]
+
+    def put(self, key, message):
+        """Put a message under a key, and return whether the key was there before."""
+        known = key in self.kept
+        self.keep(key, plain(message))
+        return known
+
+    def drop(self, key):
+        """Drop a key, and return its message."""
+        message = self.kept_at(key)
+        self.keep(key, None)
+        return message
+
+    def change(self, key, path, inner):
+        """Let another message take the place of that at a path, and return True."""
+        self.keep(key, plain(replaced(self.kept_at(key), path, inner)))
+        return True
+
+    def undo(self):
+        """Undo the last deed that was not undone, and return whether there was one."""
+        if not self.before:
+            return False
+        key, message = self.before.pop()
+        self.set_back(key, message)
+        return True
