@@ -44,9 +44,9 @@ def first_word(words, tells):
     for word in words:
         if tells(word):
             return word
-    known = set(words)
+    # For the words ahead it does not say True a second time.
     place = 0
-    while word_at(place) in known or not tells(word_at(place)):
+    while not tells(word_at(place)):
         place += 1
     return word_at(place)
 

@@ -19,9 +19,9 @@ class CategorySets:
 
     def set_of(self, category):
         """Return the numbers of a category; none if the language has no rule for it."""
-        rules = self.language.rules
-        while category not in self.found and len(self.found) < len(rules):
-            name, condition = rules[len(self.found)]
+        ruled = [name for name, _ in self.language.rules]
+        while category in ruled and category not in self.found:
+            name, condition = self.language.rules[len(self.found)]
             holds = condition_set(condition)
             self.found[name] = common(self.rest, holds)
             self.rest = difference(self.rest, holds)

@@ -33,19 +33,18 @@ class Cover:
         """Return the places of the rows that alone have some mark."""
         return sorted({places[0] for places in list(self.having.values()) if len(places) == 1})
 
-    def ways_for(self, missing, begin):
-        """Return the rows, from a place on, for each of some marks of which no row has two, the fewest first."""
-        rows = [[place for place in self.having[mark] if place >= begin] for mark in places_of(missing)]
+    def ways_for(self, missing):
+        """Return the places of the rows for each of some missing marks, of which no row has two; the fewest first."""
         ways = []
         taken = {}
-        for places in sorted(sorted(rows), key=len):
+        for places in sorted([self.having[mark] for mark in places_of(missing)], key=len):
             if not any([place in taken for place in places]):
                 ways.append(places)
                 taken.update({place: True for place in places})
         return ways
 
-    def can_cover(self, missing, begin, many):
-        """Tell whether so many rows, or fewer, from a place on have all marks that are still missing."""
+    def can_cover(self, missing, many):
+        """Tell whether so many rows, or fewer, have all marks that are still missing."""
         seen = set()
         ahead = [(missing, many)]
         while ahead:
@@ -55,7 +54,7 @@ class Cover:
             if (missing, many) in seen:
                 continue
             seen.add((missing, many))
-            ways = self.ways_for(missing, begin)
+            ways = self.ways_for(missing)
             # Each of these marks needs a row of its own.
             if len(ways) <= many:
                 ahead.extend([(missing & ~self.rows[place], many - 1) for place in ways[0]])
@@ -66,11 +65,11 @@ class Cover:
         chosen = self.forced()
         missing = self.all_marks & ~union_of([self.rows[place] for place in chosen])
         many = 0
-        while not self.can_cover(missing, 0, many):
+        while not self.can_cover(missing, many):
             many += 1
-        # A forced row that is chosen again would have none of the missing marks.
+        # A row that was passed over is in none of the fewest that are left.
         for place, row in enumerate(self.rows):
-            if many and self.can_cover(missing & ~row, place + 1, many - 1):
+            if many and self.can_cover(missing & ~row, many - 1):
                 chosen.append(place)
                 missing = missing & ~row
                 many -= 1

@@ -51,7 +51,7 @@ class Book:
 
     def messages(self):
         """Return the messages by their keys."""
-        return {key: self.kept[key] for key in sorted(self.kept)}
+        return dict(self.kept)
 
     def keep(self, key, message):
         """Keep a message under a key, as a deed that can be undone; none if it is None."""

@@ -44,10 +44,10 @@ def is_name(text):
 
 
 def signs_of(codes):
-    """Return the text of codes, or None if one of them is that of no sign."""
+    """Return the text of codes, an empty one if one of them is that of no sign."""
     signs = {ord(sign): sign for sign in SIGNS}
     if not all([code in signs for code in codes]):
-        return None
+        return ""
     return "".join([signs[code] for code in codes])
 
 
@@ -59,26 +59,26 @@ def message_of(notation):
         return None
 
 
-def deed_of_text(kind, length, text):
-    """Return the deed of a kind whose body has a text, in which the key is so long, or None."""
-    key = text[:length]
+def deed_with(key, notation):
+    """Return the deed of putting a notation under a key, of dropping it if there is none, or None."""
     if not is_name(key):
         return None
-    if kind == DROP:
+    if notation is None:
         return ("drop", key)
-    message = message_of(text[length:])
+    message = message_of(notation)
     return None if message is None else ("put", key, message)
 
 
 def deed_of(body):
     """Return the deed that a body tells, or None if it tells none."""
+    deed = None
     if body == [UNDO]:
-        return ("undo",)
-    begin = 2 if body[:1] == [PUT] else 1
-    text = signs_of(body[begin:])
-    if len(body) <= begin or body[0] not in (PUT, DROP) or text is None:
-        return None
-    deed = deed_of_text(body[0], body[1] if body[0] == PUT else len(text), text)
+        deed = ("undo",)
+    elif body[:1] == [DROP]:
+        deed = deed_with(signs_of(body[1:]), None)
+    elif body[:1] == [PUT] and len(body) > 1:
+        text = signs_of(body[2:])
+        deed = deed_with(text[:body[1]], text[body[1]:])
     # A notation may also be written otherwise than a record has it.
     return deed if deed is not None and body_of(deed) == body else None
 

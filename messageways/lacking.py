@@ -32,7 +32,7 @@ def choices_within(message):
             ahead.extend(choices[::-1])
         else:
             found.append((where, part))
-            inner = [(where + (key,), message) for key, message in zip(keys_of(part), inner_messages(part))]
+            inner = [(where + (key,), one) for key, one in zip(keys_of(part), inner_messages(part))]
             ahead.extend(inner[::-1])
     return found
 

@@ -1,4 +1,4 @@
-"""Second ways, slow but plain, to tell what comes up by arguments and what is left of a message when values are put in."""
+"""Second ways, slow but plain: what comes up by arguments, and what is left of a message when values are put in."""
 
 from itertools import product
 
@@ -13,7 +13,7 @@ SOME_WORDS = WORDS + ("", "Other word")
 
 
 def inner_rows(message):
-    """Each case of a message, all the way down, as a tuple of its path and its message, in the order of the notation."""
+    """The paths and the messages of all cases of a message, in the order of the notation."""
     found = []
     for place, node in enumerate(message):
         if node[0] in ("select", "plural"):

@@ -33,7 +33,8 @@ ALIKE = [
     ("{n, plural, one {a} other {b}}", "{n, plural, one {{n, plural, one {a} other {c}}} other {b}}"),
     # Offsets, and exact keys beside categories.
     ("{n, plural, offset:1 one {a} other {b}}", "{n, plural, =2 {a} other {b}}"),
-    ("{n, plural, offset:1 =1 {#} one {a #} other {#}}", "{n, plural, =0 {-1} =1 {0} =2 {a 1} other {{n, plural, offset:1 other {#}}}}"),
+    ("{n, plural, offset:1 =1 {#} one {a #} other {#}}",
+     "{n, plural, =0 {-1} =1 {0} =2 {a 1} other {{n, plural, offset:1 other {#}}}}"),
     ("{n, plural, =1 {a} one {b} other {c}}", "{n, plural, =1 {a} other {c}}"),
     # Names by which one of them does not choose, or that it does not have.
     ("{w, select, x {x!} other {{w}!}}", "{w}!"),
@@ -104,7 +105,8 @@ class KindsTest(unittest.TestCase):
 
     def test_messages_that_do_not_go_together(self):
         self.check_bad("{a, select, other {}}{b, plural, other {}}", "{b, select, other {}}{a, plural, other {}}", "b")
-        self.check_bad("{b, plural, other {}}{a, select, other {}}", "{c}{b}{a, plural, other {{b, select, other {}}}}", "a")
+        self.check_bad("{b, plural, other {}}{a, select, other {}}", "{c}{b}{a, plural, other {{b, select, other {}}}}",
+                       "a")
         self.check_bad("{n, plural, other {x}}", "{n, select, other {x}}", "n")
 
 

@@ -35,18 +35,23 @@ class MessageFaultsTest(unittest.TestCase):
         self.check("{n}{w}", "{n, plural, other {}}{w, select, other {}}")
 
     def test_beyond(self):
-        self.check("{b}", "{c}{b}{a, plural, other {{d, select, other {}}}}", ("beyond", "a"), ("beyond", "c"), ("beyond", "d"))
+        self.check("{b}", "{c}{b}{a, plural, other {{d, select, other {}}}}", ("beyond", "a"), ("beyond", "c"),
+                   ("beyond", "d"))
 
     def test_without(self):
-        self.check("{c}{b}{a, plural, other {{d, select, other {}}}}", "{b}", ("without", "a"), ("without", "c"), ("without", "d"))
+        self.check("{c}{b}{a, plural, other {{d, select, other {}}}}", "{b}", ("without", "a"), ("without", "c"),
+                   ("without", "d"))
 
     def test_unlike(self):
-        self.check("{b, plural, other {}}{a, select, other {}}{c}", "{b, select, other {}}{a, plural, other {}}{c, plural, other {}}",
+        self.check("{b, plural, other {}}{a, select, other {}}{c}",
+                   "{b, select, other {}}{a, plural, other {}}{c, plural, other {}}",
                    ("unlike", "a"), ("unlike", "b"))
 
     def test_beyond_then_without_then_unlike(self):
-        self.check("{a, plural, other {}}{z, plural, other {}}{c}{b}", "{z, select, other {}}{a, select, other {}}{y}{x}",
-                   ("beyond", "x"), ("beyond", "y"), ("without", "b"), ("without", "c"), ("unlike", "a"), ("unlike", "z"))
+        self.check("{a, plural, other {}}{z, plural, other {}}{c}{b}",
+                   "{z, select, other {}}{a, select, other {}}{y}{x}",
+                   ("beyond", "x"), ("beyond", "y"), ("without", "b"), ("without", "c"), ("unlike", "a"),
+                   ("unlike", "z"))
 
     def test_bad_alone(self):
         self.check("{c}{a, plural, other {}}", BAD + "{d}", ("bad", "a"))
@@ -76,7 +81,8 @@ class CatalogFaultsTest(unittest.TestCase):
     def test_no_fault(self):
         source = catalog_of({"hello": "Hello {who}", "files": "{n, plural, one {# file} other {# files}}"})
         self.assertEqual(catalog_faults(source, {}), [])
-        self.assertEqual(catalog_faults(source, {"de": catalog_of({"files": "{n} Dateien", "hello": "Hallo {who}"})}), [])
+        self.assertEqual(catalog_faults(source, {"de": catalog_of({"files": "{n} Dateien", "hello": "Hallo {who}"})}),
+                         [])
         self.assertEqual(catalog_faults({}, {"de": {}}), [])
 
     def test_all_faults_in_order(self):
@@ -126,14 +132,19 @@ class SameGroupsTest(unittest.TestCase):
     def test_bad_messages_are_left_out(self):
         bad = "{n, plural, other {{n, select, other {x}}}}"
         self.check({"a": bad, "b": bad, "c": "x", "d": "x", "e": bad}, [["c", "d"]])
+        bad = ("{n, plural, =1 {{n, select, x {1} other {2}}} other {{n, select, x {1} other {3}}}}"
+               "{n, select, one {} other {x}}")
+        self.check({"a": bad, "b": bad, "c": "x", "d": "x", "e": bad}, [["c", "d"]])
 
     def test_alike_but_not_together(self):
         # The second one goes together with both others, but those do not with one another.
         self.check({"a": "x{n, plural, other {}}", "b": "x", "c": "x{n, select, other {}}"}, [["a", "b"]])
         self.check({"a": "x", "b": "x{n, plural, other {}}", "c": "x{n, select, other {}}"}, [["a", "b", "c"]])
-        self.check({"a": "x{n, plural, other {}}", "b": "x{n, select, other {}}", "c": "x", "d": "{n, select, other {x}}",
+        self.check({"a": "x{n, plural, other {}}", "b": "x{n, select, other {}}", "c": "x",
+                    "d": "{n, select, other {x}}",
                     "e": "{n, plural, other {x}}"}, [["a", "c", "e"], ["b", "d"]])
-        self.check({"a": "{n, plural, other {#}}", "b": "{n, select, other {{n}}}", "c": "{n}", "d": "{n, select, x {x} other {{n}}}"},
+        self.check({"a": "{n, plural, other {#}}", "b": "{n, select, other {{n}}}", "c": "{n}",
+                    "d": "{n, select, x {x} other {{n}}}"},
                    [["a", "c"], ["b", "d"]])
 
     def test_groups_by_their_first_keys(self):

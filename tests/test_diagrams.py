@@ -140,6 +140,9 @@ class NumberTest(unittest.TestCase):
             "zero: n mod 2 in 0", "one: n mod 97 in 0", "two: n mod 89 in 0", "few: n mod 83 in 0",
             "many: n mod 79 in 0"]))
         self.assertEqual(len(of("{n, plural, one {a} other {b}}", language)[3]), 194)
+        language = parse_language("\n".join([
+            "one: n mod 97 in 0", "two: n mod 89 in 0", "few: n mod 83 in 0", "many: n mod 79 in 0"]))
+        self.assertEqual(len(of("{n, plural, zero {a} one {a} other {b}}", language)[3]), 97)
 
 
 class ShapeTest(unittest.TestCase):

@@ -28,7 +28,8 @@ WRONG_PATHS = (
 
 class PlacesTest(unittest.TestCase):
     def test_message_at(self):
-        for path, notation in (((), NOTATION), (((1, 1),), "b{w, select, x {c} one {} other {d}}"), (((1, 1), (1, "x")), "c"),
+        for path, notation in (((), NOTATION), (((1, 1),), "b{w, select, x {c} one {} other {d}}"),
+                               (((1, 1), (1, "x")), "c"),
                                (((1, 1), (1, "one")), ""), (((1, 1), (1, "other")), "d"), (((1, "one"),), "e"),
                                (((1, "other"), (0, "other")), "{n}"), (((3, "y"),), "{n, plural, other {f}}"),
                                (((3, "y"), (0, "other")), "f"), (((3, "other"),), "g")):
@@ -40,10 +41,12 @@ class PlacesTest(unittest.TestCase):
         for path, notation in (
                 ((), "NEW"), (((1, 1),), NOTATION.replace("b{w, select, x {c} one {} other {d}}", "NEW")),
                 (((1, 1), (1, "one")), NOTATION.replace("one {} other", "one {NEW} other")),
-                (((1, 1), (1, "other")), NOTATION.replace("{d}", "{NEW}")), (((1, "one"),), NOTATION.replace("{e}", "{NEW}")),
+                (((1, 1), (1, "other")), NOTATION.replace("{d}", "{NEW}")),
+                (((1, "one"),), NOTATION.replace("{e}", "{NEW}")),
                 (((1, "other"), (0, "other")), NOTATION.replace("{{n}}", "{NEW}")),
                 (((1, "other"),), NOTATION.replace("{{w, select, other {{n}}}#}", "{NEW}")),
-                (((3, "y"), (0, "other")), NOTATION.replace("{f}", "{NEW}")), (((3, "other"),), NOTATION.replace("{g}", "{NEW}"))):
+                (((3, "y"), (0, "other")), NOTATION.replace("{f}", "{NEW}")),
+                (((3, "other"),), NOTATION.replace("{g}", "{NEW}"))):
             self.assertEqual(format_message(replaced(MESSAGE, path, [("text", "NEW")])), notation)
         self.assertEqual(format_message(MESSAGE), NOTATION)
 
@@ -79,7 +82,8 @@ class PlacesTest(unittest.TestCase):
         deep = deep_message(3000, [("show", "a")])
         path = tuple([(0, "other" if level % 2 == 0 else 1) for level in range(2999, -1, -1)])
         self.assertEqual(message_at(deep, path), [("show", "a")])
-        self.assertEqual(format_message(replaced(deep, path, [("show", "b")])), format_message(deep_message(3000, [("show", "b")])))
+        self.assertEqual(format_message(replaced(deep, path, [("show", "b")])),
+                         format_message(deep_message(3000, [("show", "b")])))
 
 
 class BookTest(unittest.TestCase):
@@ -144,7 +148,8 @@ class BookTest(unittest.TestCase):
 
     def test_plain_form(self):
         book = Book()
-        message = [("text", ""), ("text", "a"), ("select", "w", [("x", [("text", "")])], [("text", "b"), ("text", "c")]), ("text", "d")]
+        message = [("text", ""), ("text", "a"),
+                   ("select", "w", [("x", [("text", "")])], [("text", "b"), ("text", "c")]), ("text", "d")]
         book.put("a", message)
         self.assertEqual(book.messages(), {"a": plain(message)})
         # The path is one in the message as it is kept.

@@ -5,7 +5,8 @@ import unittest
 FUNCTIONS = {
     "messages": {"plain": 1, "size_of": 1, "kinds_of": 1, "cases_of": 1, "other_of": 1, "inner_messages": 1},
     "notation": {"format_message": 1, "parse_message": 1},
-    "languages": {"category_of": 2, "relation_holds": 2, "condition_holds": 2, "format_language": 1, "parse_language": 1},
+    "languages": {"category_of": 2, "relation_holds": 2, "condition_holds": 2, "format_language": 1,
+                  "parse_language": 1},
     "sets": {"settled": 2, "contains": 2, "is_empty": 1, "is_within": 2, "union": 2, "common": 2, "difference": 2,
              "complement": 1, "least": 1, "single": 1, "range_set": 2, "moved": 2, "relation_set": 1,
              "condition_set": 1, "category_sets": 1},

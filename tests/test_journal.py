@@ -27,32 +27,38 @@ def put(key, notation):
     return ("put", key, parse_message(notation))
 
 
-DEEDS = [put("a", ""), put("hello", "Hello, {who}!"), ("drop", "a"), ("undo",), put("abcdefgh", "it''s '{'#'}'".replace("#", "'#'")),
-         put("files", "{n, plural, offset:1 =0 {none\n} one {{w, select, x {#} other {}}} other {# ~ }}"), ("undo",), ("undo",),
+DEEDS = [put("a", ""), put("hello", "Hello, {who}!"), ("drop", "a"), ("undo",),
+         put("abcdefgh", "it''s '{'#'}'".replace("#", "'#'")),
+         put("files", "{n, plural, offset:1 =0 {none\n} one {{w, select, x {#} other {}}} other {# ~ }}"), ("undo",),
+         ("undo",),
          put("hello", "\n\n"), ("drop", "hello"), put("z", "x" * 300)]
 
 
 class RecordTest(unittest.TestCase):
     def test_put(self):
         self.assertEqual(record_of(("put", "a", [])), [0, 3, 1, 1, 97, 99, 170])
-        self.assertEqual(record_of(("put", "ab", [("text", "c")])), [0, 5, 1, 2, 97, 98, 99, (3 + 97 + 98 + 99) % 256, 170])
+        self.assertEqual(record_of(("put", "ab", [("text", "c")])),
+                         [0, 5, 1, 2, 97, 98, 99, (3 + 97 + 98 + 99) % 256, 170])
         self.assertEqual(record_of(put("a", "\n~ {b}")), [
             0, 9, 1, 1, 97, 10, 126, 32, 123, 98, 125, (2 + 97 + 10 + 126 + 32 + 123 + 98 + 125) % 256, 170])
-        self.assertEqual(record_of(put("k", "'''{'")), [0, 8, 1, 1, 107, 39, 39, 39, 123, 39, (2 + 107 + 4 * 39 + 123) % 256, 170])
+        self.assertEqual(record_of(put("k", "'''{'")),
+                         [0, 8, 1, 1, 107, 39, 39, 39, 123, 39, (2 + 107 + 4 * 39 + 123) % 256, 170])
 
     def test_choices(self):
         notation = "{n, plural, offset:1 =0 {'#'#} one {{w, select, x {} other {''}}} other {\n}}"
         self.assertEqual(record_of(put("files", notation)), record([1, 5] + signs("files") + signs(notation)))
 
     def test_plain_form(self):
-        message = [("text", ""), ("text", "a"), ("text", "b"), ("select", "w", [("x", [("text", "")])], []), ("text", "")]
+        message = [("text", ""), ("text", "a"), ("text", "b"), ("select", "w", [("x", [("text", "")])], []),
+                   ("text", "")]
         before = copy.deepcopy(message)
         self.assertEqual(record_of(("put", "a", message)), record(put_body("a", "ab{w, select, x {} other {}}")))
         self.assertEqual(message, before)
 
     def test_drop_and_undo(self):
         self.assertEqual(record_of(("drop", "a")), [0, 2, 2, 97, 99, 170])
-        self.assertEqual(record_of(("drop", "abcdefgh")), [0, 9, 2] + signs("abcdefgh") + [(2 + sum(signs("abcdefgh"))) % 256, 170])
+        self.assertEqual(record_of(("drop", "abcdefgh")),
+                         [0, 9, 2] + signs("abcdefgh") + [(2 + sum(signs("abcdefgh"))) % 256, 170])
         self.assertEqual(record_of(("undo",)), [0, 1, 3, 3, 170])
 
     def test_long_bodies(self):
@@ -88,7 +94,8 @@ class RecoveredTest(unittest.TestCase):
         for deed in DEEDS[1:4] + [put("ab", "{a}b")]:
             middle = record_of(deed)
             for place in range(len(middle)):
-                for octet in {0, 1, 2, 3, 32, 37, 97, 170, 255, middle[place] ^ 1, (middle[place] + 1) % 256} - {middle[place]}:
+                for octet in {0, 1, 2, 3, 32, 37, 97, 170, 255, middle[place] ^ 1,
+                              (middle[place] + 1) % 256} - {middle[place]}:
                     wrong = middle[:place] + [octet] + middle[place + 1:]
                     found = recovered(first + wrong + last)
                     self.assertEqual(found, ([put("b", "x")], len(first)), (deed, place, octet))
@@ -98,30 +105,36 @@ class RecoveredTest(unittest.TestCase):
         for body in (
                 [], [0], [1], [2], [4], [1, 0], [1, 1], [1, 0, 97], [3, 0], [3, 3], [0, 97], [4, 97], [170], [255],
                 # Keys that are none.
-                put_body("abcdefghi", "x"), put_body("A", "x"), put_body("a1", "x"), put_body(" a", "x"), put_body("", "x"),
+                put_body("abcdefghi", "x"), put_body("A", "x"), put_body("a1", "x"), put_body(" a", "x"),
+                put_body("", "x"),
                 [1, 9] + signs("abcdefgh"), [1, 3] + signs("ab"), [1, 2] + signs("a{b}"), [1, 200] + signs("ab"),
-                [2] + signs("abcdefghi"), [2] + signs("Ab"), [2] + signs("a b"), [2] + signs("a\n"), [2, 200], [2, 97, 0],
+                [2] + signs("abcdefghi"), [2] + signs("Ab"), [2] + signs("a b"), [2] + signs("a\n"), [2, 200],
+                [2, 97, 0],
                 # Notations that cannot be read.
                 put_body("a", "{"), put_body("a", "}"), put_body("a", "'"), put_body("a", "#"), put_body("a", "{b"),
-                put_body("a", "{abcdefghi}"), put_body("a", "{n, plural, one {a}}"), put_body("a", "{n, plural, =1 {} =1 {} other {}}"),
+                put_body("a", "{abcdefghi}"), put_body("a", "{n, plural, one {a}}"),
+                put_body("a", "{n, plural, =1 {} =1 {} other {}}"),
                 # Notations of no plain form: with other spaces, or a needless offset.
                 put_body("a", "{ b}"), put_body("a", "{w,select, other {}}"), put_body("a", "{w, select, other {} }"),
                 put_body("a", "{n, plural, offset:0 other {}}"), put_body("a", "{n, plural,\nother {}}"),
                 # A percent sign, and octets that are no signs.
                 put_body("a", "%"), put_body("a", "10 %{b}"), put_body("a", "") + [9], put_body("a", "") + [13],
-                put_body("a", "x") + [0], put_body("a", "x") + [31], put_body("a", "x") + [127], put_body("a", "x") + [128, 255],
+                put_body("a", "x") + [0], put_body("a", "x") + [31], put_body("a", "x") + [127],
+                put_body("a", "x") + [128, 255],
                 put_body("a", "x") + [195, 164], [2, 37], [1, 1, 37, 97]):
             self.assertEqual(recovered(first + record(body) + last), ([put("b", "x")], len(first)), body)
             self.assertEqual(recovered(record(body)), ([], 0), body)
 
     def test_keys_and_notations_that_might_seem_wrong(self):
-        for deed in (put("other", "x"), put("select", "{other}"), put("abcdefgh", "{abcdefgh}"), put("a", "''"), put("a", "a''"),
+        for deed in (put("other", "x"), put("select", "{other}"), put("abcdefgh", "{abcdefgh}"), put("a", "''"),
+                     put("a", "a''"),
                      put("a", " \n "), put("a", "{n, plural, offset:9 =999 {#} other {'#'}}"), ("drop", "abcdefgh")):
             self.assertEqual(recovered(record_of(deed)), ([deed], len(record_of(deed))))
 
     def test_what_follows_does_not_count(self):
         first = record_of(("drop", "a"))
-        for rest in ([0], [0, 0], [0, 0, 0, 170], [0, 1, 3, 3, 171], [0, 1, 3, 4, 170], [0, 2, 3, 3, 170], [255, 255], [0, 1, 3, 3],
+        for rest in ([0], [0, 0], [0, 0, 0, 170], [0, 1, 3, 3, 171], [0, 1, 3, 4, 170], [0, 2, 3, 3, 170], [255, 255],
+                     [0, 1, 3, 3],
                      [0] + record_of(("undo",)), [170] + first):
             self.assertEqual(recovered(first + rest + record_of(("undo",)) * 3), ([("drop", "a")], len(first)))
 
@@ -169,7 +182,8 @@ class JournaledBookTest(unittest.TestCase):
     def test_answers_and_records(self):
         journaled = JournaledBook(Book(), Device([], 1000))
         octets = []
-        for deed, answer in ((put("a", "1"), False), (put("a", "2"), True), (("drop", "a"), [("text", "2")]), (("undo",), True),
+        for deed, answer in ((put("a", "1"), False), (put("a", "2"), True), (("drop", "a"), [("text", "2")]),
+                             (("undo",), True),
                              (("undo",), True), (put("b", "{w}"), False)):
             kept = copy.deepcopy(deed)
             self.assertEqual(journaled.perform(deed), answer)
@@ -237,7 +251,8 @@ class JournaledBookTest(unittest.TestCase):
                 octets = first + record_of(deed)[:more]
                 messages = {key: parse_message(notation) for key, notation in answer.items()}
                 for later in (put("c", ""), ("drop", "zzz"), ("undo",), ("undo",), ("drop", "a")):
-                    self.assertEqual((journaled.shut, journaled.book.messages(), journaled.device.octets), (True, messages, octets))
+                    self.assertEqual((journaled.shut, journaled.book.messages(), journaled.device.octets),
+                                     (True, messages, octets))
                     with self.assertRaises(ShutError):
                         journaled.perform(later)
                 self.assertEqual(recovered(octets), ([put("a", "1")], len(first)))

@@ -12,7 +12,8 @@ NONE = Language([])
 EN = parse_language(ENGLISH)
 RU = parse_language(RUSSIAN)
 HALVES = parse_language("one: n mod 2 in 0\nfew: n mod 2 in 1")
-BY_100 = parse_language("two: n mod 100 in 2,22\nfew: n mod 10 in 2..4 and n mod 100 not in 12..14\nmany: n mod 100 in 3")
+BY_100 = parse_language("two: n mod 100 in 2,22\nfew: n mod 10 in 2..4 and n mod 100 not in 12..14\nmany: n mod 100 "
+                        "in 3")
 
 
 def few_names(chance, levels):
@@ -50,7 +51,8 @@ class ComingUpTest(unittest.TestCase):
         self.check("a{b}", [])
 
     def test_words_within_words(self):
-        self.check("{w, select, x {{w, select, x {1} y {2} other {3}}} other {}}", [((0, "x"), (0, "y")), ((0, "x"), (0, "other"))])
+        self.check("{w, select, x {{w, select, x {1} y {2} other {3}}} other {}}",
+                   [((0, "x"), (0, "y")), ((0, "x"), (0, "other"))])
         self.check("{w, select, x {{w, select, y {1} other {2}}} other {}}", [((0, "x"), (0, "y"))])
         self.check("{w, select, x {1} y {2} other {{w, select, y {3} z {4} other {5}}}}", [((0, "other"), (0, "y"))])
         self.check("{w, select, x {{v, select, x {{w, select, x {} other {}}} other {}}} other {}}",
@@ -59,12 +61,14 @@ class ComingUpTest(unittest.TestCase):
                    [((0, "other"), (0, "other"), (0, "x")), ((0, "other"), (0, "other"), (0, "y"))])
 
     def test_choices_beside_one_another_know_nothing_of_one_another(self):
-        self.check("{w, select, x {1} other {2}}{w, select, x {1} other {2}}{n, plural, one {} other {}}{n, plural, one {} other {}}", [])
+        self.check("{w, select, x {1} other {2}}{w, select, x {1} other {2}}{n, plural, one {} other {}}"
+                   "{n, plural, one {} other {}}", [])
 
     def test_numbers_within_numbers(self):
         self.check("{n, plural, one {{n, plural, =0 {} =1 {} =2 {} one {} other {}}} other {}}", [
             ((0, "one"), (0, 0)), ((0, "one"), (0, 2)), ((0, "one"), (0, "one")), ((0, "one"), (0, "other"))])
-        self.check("{n, plural, =5 {{n, plural, one {} other {}}} one {{n, plural, =5 {} other {}}} other {{n, plural, one {} =1 {} other {}}}}", [
+        self.check("{n, plural, =5 {{n, plural, one {} other {}}} one {{n, plural, =5 {} other {}}} other {{n, "
+                   "plural, one {} =1 {} other {}}}}", [
             ((0, 5), (0, "one")), ((0, "one"), (0, 5)), ((0, "other"), (0, "one")), ((0, "other"), (0, 1))])
 
     def test_exact_keys_within_categories(self):
@@ -74,12 +78,14 @@ class ComingUpTest(unittest.TestCase):
     def test_exact_keys_go_ahead_of_categories(self):
         self.check("{n, plural, one {} =1 {} other {}}", [((0, "one"),)])
         self.check("{n, plural, one {} =1 {} other {}}", [], RU)
-        self.check("{n, plural, zero {} =0 {} =1 {} =2 {} other {}}", [((0, "zero"),)], parse_language("zero: n in 0..2"))
+        self.check("{n, plural, zero {} =0 {} =1 {} =2 {} other {}}", [((0, "zero"),)],
+                   parse_language("zero: n in 0..2"))
 
     def test_other_offsets(self):
         self.check("{n, plural, offset:1 one {{n, plural, one {} =2 {} other {}}} other {}}",
                    [((0, "one"), (0, "one")), ((0, "one"), (0, "other"))])
-        self.check("{n, plural, one {{n, plural, offset:2 one {} other {}}} other {{n, plural, offset:2 one {} =3 {} other {}}}}",
+        self.check("{n, plural, one {{n, plural, offset:2 one {} other {}}} other {{n, plural, offset:2 one {} =3 {} "
+                   "other {}}}}",
                    [((0, "one"), (0, "one")), ((0, "other"), (0, "one"))])
         self.check("{n, plural, =0 {{n, plural, offset:1 zero {} one {} two {} few {} many {} other {}}} other {}}",
                    [((0, 0), (0, name)) for name in ("zero", "one", "two", "few", "many")], HALVES)
@@ -88,7 +94,8 @@ class ComingUpTest(unittest.TestCase):
         self.check("{n, plural, one {} few {} other {{w}}}", [((0, "other"),)], HALVES)
         self.check("{n, plural, offset:1 one {} few {} other {{w}}}", [], HALVES)
         self.check("{n, plural, offset:1 one {} few {} =0 {} other {{w}}}", [((0, "other"),)], HALVES)
-        self.check("{n, plural, offset:1 one {} few {} other {{n, plural, =0 {} other {}}}}", [((0, "other"), (0, "other"))], HALVES)
+        self.check("{n, plural, offset:1 one {} few {} other {{n, plural, =0 {} other {}}}}",
+                   [((0, "other"), (0, "other"))], HALVES)
 
     def test_categories_without_a_rule_or_numbers(self):
         self.check("{n, plural, one {} other {}}", [((0, "one"),)], NONE)
@@ -96,18 +103,21 @@ class ComingUpTest(unittest.TestCase):
                    parse_language("zero: n in 3 and n in 4\none: n in 7\ntwo: n in 7"))
 
     def test_a_case_within_a_needless_one_is_not_told(self):
-        self.check("{n, plural, two {{w, select, x {{n, plural, few {} other {}}} other {}}} other {{n, plural, few {{v, select, other {}}} other {}}}}",
+        self.check("{n, plural, two {{w, select, x {{n, plural, few {} other {}}} other {}}} other {{n, plural, few "
+                   "{{v, select, other {}}} other {}}}}",
                    [((0, "two"),), ((0, "other"), (0, "few"))])
 
     def test_remainders_by_100(self):
-        self.check("{n, plural, two {} few {{n, plural, =2 {} =22 {} =32 {} =103 {} many {} other {}}} many {} other {}}", [
+        self.check("{n, plural, two {} few {{n, plural, =2 {} =22 {} =32 {} =103 {} many {} other {}}} many {} other "
+                   "{}}", [
             ((0, "few"), (0, 2)), ((0, "few"), (0, 22)), ((0, "few"), (0, "many")), ((0, "many"),)], BY_100)
         self.check("{n, plural, offset:7 two {{n, plural, offset:5 few {} two {} other {}}} other {}}",
                    [((0, "two"), (0, "two")), ((0, "two"), (0, "other"))], BY_100)
 
     def test_far_numbers(self):
         far = parse_language("one: n in 9999\nfew: n mod 97 in 8 and n mod 89 in 9 and n not in 0..9999")
-        self.check("{n, plural, offset:9 one {{n, plural, offset:9 one {} few {} other {}}} few {{n, plural, =999 {} one {} few {} other {}}} other {}}", [
+        self.check("{n, plural, offset:9 one {{n, plural, offset:9 one {} few {} other {}}} few {{n, plural, =999 {} "
+                   "one {} few {} other {}}} other {}}", [
             ((0, "one"), (0, "few")), ((0, "one"), (0, "other")), ((0, "few"), (0, 999)),
             ((0, "few"), (0, "one")), ((0, "few"), (0, "few"))], far)
 
@@ -175,19 +185,24 @@ class LacksTest(unittest.TestCase):
     def test_offsets(self):
         self.assertEqual(self.lacking("{n, plural, offset:1 =1 {} other {}}", EN), [((0,), ["one"])])
         self.assertEqual(self.lacking("{n, plural, offset:1 =2 {} other {}}", EN), [((0,), [])])
-        self.assertEqual(self.lacking("{n, plural, offset:9 =9 {} =10 {} other {}}", parse_language("one: n in 0..1")), [((0,), [])])
-        self.assertEqual(self.lacking("{n, plural, offset:9 =0 {} =1 {} other {}}", parse_language("one: n in 0..1")), [((0,), ["one"])])
+        self.assertEqual(self.lacking("{n, plural, offset:9 =9 {} =10 {} other {}}", parse_language("one: n in 0..1")),
+                         [((0,), [])])
+        self.assertEqual(self.lacking("{n, plural, offset:9 =0 {} =1 {} other {}}", parse_language("one: n in 0..1")),
+                         [((0,), ["one"])])
 
     def test_where_each_plural_stands(self):
         self.assertEqual(self.lacking(
-            "a{n, plural, one {{b}{p, plural, one {} other {}}} =5 {{w, select, x {{p, plural, other {}}} other {{c}{q, plural, few {} other {}}}}} other {{n, plural, many {} other {}}}}"
+            "a{n, plural, one {{b}{p, plural, one {} other {}}} =5 {{w, select, x {{p, plural, other {}}} other {{c}"
+            "{q, plural, few {} other {}}}}} other {{n, plural, many {} other {}}}}"
             "{w, select, other {{r, plural, one {} few {} other {}}}}{n, plural, other {}}"), [
                 ((1,), ["few", "many"]), ((1, "one", 1), ["few", "many"]), ((1, 5, 0, "x", 0), ["one", "few", "many"]),
-                ((1, 5, 0, "other", 1), ["one", "many"]), ((1, "other", 0), ["one", "few"]), ((2, "other", 0), ["many"]),
+                ((1, 5, 0, "other", 1), ["one", "many"]), ((1, "other", 0), ["one", "few"]),
+                ((2, "other", 0), ["many"]),
                 ((3,), ["one", "few", "many"])])
 
     def test_a_plural_within_a_case_that_cannot_come_up(self):
-        self.assertEqual(self.lacking("{n, plural, two {{n, plural, one {} other {}}} one {{n, plural, one {} other {}}} few {} other {}}"), [
+        self.assertEqual(self.lacking("{n, plural, two {{n, plural, one {} other {}}} one {{n, plural, one {} other "
+                                      "{}}} few {} other {}}"), [
             ((0,), ["many"]), ((0, "two", 0), ["few", "many"]), ((0, "one", 0), ["few", "many"])])
 
     def test_small_messages(self):

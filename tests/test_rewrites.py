@@ -55,10 +55,12 @@ SAFE = [
     # A hole in a plural that always is that of the same number.
     ("{n, plural, offset:1 one {{A}} other {{A}}}", "{n, plural, offset:1 other {{A}}}"),
     ("{n, plural, offset:1 =2 {{A}} other {{B}}}", "{n, plural, offset:1 one {{A}} other {{B}}}"),
-    ("{n, plural, =3 {{p, plural, =3 {{A}} other {}}} other {}}", "{p, plural, =3 {{n, plural, =3 {{A}} other {}}} other {}}"),
+    ("{n, plural, =3 {{p, plural, =3 {{A}} other {}}} other {}}",
+     "{p, plural, =3 {{n, plural, =3 {{A}} other {}}} other {}}"),
     # What stands in a plural by a name and outside of it, too, has no number.
     ("{n, plural, other {{A}}}{A}", "{A}{n, plural, offset:2 one {{A}} other {{A}}}"),
     ("{n, plural, offset:1 one {{A}} other {}}{B}{A}", "{n, plural, =2 {{A}} other {}}{B}{A}"),
+    ("{n, plural, other {{A}}}{w, select, x {{A}} other {}}", "{w, select, x {{A}{A}} other {{A}}}"),
     # Texts of holes and numbers beside one another.
     ("{n, plural, =1 {1{A}} other {#{A}}}", "{n, plural, other {#{A}}}"),
 ]
@@ -79,7 +81,10 @@ UNSAFE = [
     ("{n, plural, other {{A}}}", "{p, plural, other {{A}}}"),
     ("{n, plural, offset:1 =2 {{A}} other {}}", "{n, plural, =2 {{A}} other {}}"),
     ("{n, plural, other {{A}{p, plural, other {{A}}}}}", "{p, plural, other {{A}{n, plural, other {{A}}}}}"),
-    ("{n, plural, =1 {{p, plural, =11 {{A}} other {}}{A}} other {}}", "{n, plural, =1 {{A}{p, plural, =11 {{A}} other {}}} other {}}"),
+    ("{n, plural, =1 {{p, plural, =11 {{A}} other {}}{A}} other {}}",
+     "{n, plural, =1 {{A}{p, plural, =11 {{A}} other {}}} other {}}"),
+    ("{n, plural, other {{w, select, x {{A}} other {}}}}",
+     "{n, plural, offset:1 other {{w, select, x {{A}} other {}}}}"),
     # Outside of all plurals there is none, but order counts.
     ("{n, plural, other {{A}}}{A}{B}", "{A}{n, plural, offset:2 one {{A}} other {{B}}}{A}"),
 ]
@@ -126,7 +131,8 @@ class SafeTest(unittest.TestCase):
 
     def test_counter_examples(self):
         self.assertEqual(counter_example(side("{A}{w}"), side("{w}{A}"), EN), ({"a": [("text", "a")]}, {"w": "b"}))
-        self.assertEqual(counter_example(side("{n, plural, other {{A}}}"), side("{n, plural, offset:1 other {{A}}}"), EN), (
+        self.assertEqual(counter_example(side("{n, plural, other {{A}}}"), side("{n, plural, offset:1 other {{A}}}"),
+                                         EN), (
             {"a": [("text", "a"), ("number",), ("text", "a")]}, {"n": 0}))
         fillings, arguments = counter_example(side("{n, plural, =999 {{A}} other {}}{B}"), side("{B}"), EN)
         self.assertEqual((sorted(fillings), arguments), (["a", "b"], {"n": 999}))
@@ -146,7 +152,7 @@ class SafeTest(unittest.TestCase):
         safe = 0
         for turn in range(400):
             language = chance.choice(LANGUAGES)
-            left = small_message(chance, 1, holes=True)
+            left = small_message(chance, 1 + (turn % 8 == 0), holes=True)
             right = small_message(chance, 1, holes=True)
             if turn % 2:
                 # More of those that are safe, or nearly so.

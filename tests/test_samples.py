@@ -59,7 +59,8 @@ class SampleTest(unittest.TestCase):
         self.check("{w, select, " + letters + "other {}}", ((0, "other"),), {"w": "aa"})
 
     def test_the_words_of_all_selects_come_first(self):
-        notation = "{w, select, b {} other {}}{v, select, x {{w, select, z {{w, select, k {} other {}}} y {} other {}}} other {}}"
+        notation = ("{w, select, b {} other {}}"
+                    "{v, select, x {{w, select, z {{w, select, k {} other {}}} y {} other {}}} other {}}")
         self.check(notation, ((0, "other"),), {"v": "x", "w": "k"})
         self.check(notation, ((1, "x"), (0, "other")), {"v": "x", "w": "b"})
         self.check(notation, ((1, "other"),), {"v": "a", "w": "b"})
@@ -67,9 +68,11 @@ class SampleTest(unittest.TestCase):
         self.check(notation, ((1, "x"), (0, "z"), (0, "other")), {"v": "x", "w": "z"})
 
     def test_names_of_all_kinds(self):
-        notation = "{q}{n, plural, one {{w, select, x {{m, plural, other {}}} other {}}} other {{z}}}{v, select, c {} d {} other {}}"
+        notation = ("{q}{n, plural, one {{w, select, x {{m, plural, other {}}} other {}}} other {{z}}}"
+                    "{v, select, c {} d {} other {}}")
         self.check(notation, ((1, "one"), (0, "other")), {"m": 0, "n": 1, "q": "a", "v": "c", "w": "a", "z": "a"})
-        self.check(notation, ((1, "one"), (0, "x"), (0, "other")), {"m": 0, "n": 1, "q": "a", "v": "c", "w": "x", "z": "a"})
+        self.check(notation, ((1, "one"), (0, "x"), (0, "other")),
+                   {"m": 0, "n": 1, "q": "a", "v": "c", "w": "x", "z": "a"})
         self.check(notation, ((2, "other"),), {"m": 0, "n": 0, "q": "a", "v": "a", "w": "x", "z": "a"})
 
     def test_cases_that_cannot_come_up(self):
@@ -78,11 +81,22 @@ class SampleTest(unittest.TestCase):
         self.check("{n, plural, one {{n, plural, one {} other {}}} other {}}", ((0, "one"), (0, "other")), None)
 
     def test_bad_messages(self):
-        message = parse_message("{b, plural, one {} other {}}{a, select, x {} other {}}{a, plural, =1 {} other {}}{b, select, other {}}")
-        for call in (lambda: sample(message, EN, ((0, "one"),)), lambda: samples(message, EN), lambda: fewest_samples(message, EN)):
+        message = parse_message("{b, plural, one {} other {}}{a, select, x {} other {}}{a, plural, =1 {} other {}}"
+                                "{b, select, other {}}")
+        for call in (lambda: sample(message, EN, ((0, "one"),)), lambda: samples(message, EN),
+                     lambda: fewest_samples(message, EN)):
             with self.assertRaises(BadMessage) as caught:
                 call()
             self.assertEqual(caught.exception.name, "a")
+
+    def test_bad_messages_within_one_another(self):
+        for notation, path in (("{a, select, x {{a, plural, =1 {} other {}}} other {}}", ((0, "x"), (0, 1))),
+                               ("{a, plural, =1 {{a, select, x {} other {}}} other {}}", ((9, "x"),))):
+            message = parse_message(notation)
+            for call in (lambda: sample(message, EN, path), lambda: samples(message, EN),
+                         lambda: fewest_samples(message, EN)):
+                with self.assertRaises(BadMessage):
+                    call()
 
     def test_small_messages(self):
         chance = random_with(60)
@@ -123,7 +137,8 @@ class SamplesTest(unittest.TestCase):
         self.assertTrue(covers(parse_message("a{b}"), EN, []))
 
     def test_cases_that_cannot_come_up_have_none(self):
-        self.assertEqual(samples(parse_message("{n, plural, zero {} few {} one {} other {{w, select, other {}}}}"), HALVES),
+        self.assertEqual(samples(parse_message("{n, plural, zero {} few {} one {} other {{w, select, other {}}}}"),
+                                 HALVES),
                          [{"n": 1, "w": "a"}, {"n": 0, "w": "a"}])
 
     def test_small_messages(self):
@@ -144,13 +159,15 @@ class SamplesTest(unittest.TestCase):
 
 class WaysTest(unittest.TestCase):
     def test_ways(self):
-        message = parse_message("a{n, plural, offset:1 =1 {{w, select, x {1} other {2}}} one {{w}} other {{w, select, y {{n, plural, =7 {3} other {4}}} other {5}}}}{w, select, x {6} other {7}}")
+        message = parse_message("a{n, plural, offset:1 =1 {{w, select, x {1} other {2}}} one {{w}} other {{w, select, "
+                                "y {{n, plural, =7 {3} other {4}}} other {5}}}}{w, select, x {6} other {7}}")
         before = copy.deepcopy(message)
         for arguments, ways in (
                 ({"n": 1, "w": "x"}, [((1, 1),), ((1, 1), (0, "x")), ((2, "x"),)]),
                 ({"n": 1, "w": "one"}, [((1, 1),), ((1, 1), (0, "other")), ((2, "other"),)]),
                 ({"n": 2, "w": "other"}, [((1, "one"),), ((2, "other"),)]),
-                ({"n": 7, "w": "y"}, [((1, "other"),), ((1, "other"), (0, "y")), ((1, "other"), (0, "y"), (0, 7)), ((2, "other"),)]),
+                ({"n": 7, "w": "y"},
+                 [((1, "other"),), ((1, "other"), (0, "y")), ((1, "other"), (0, "y"), (0, 7)), ((2, "other"),)]),
                 ({"n": 10 ** 40, "w": ""}, [((1, "other"),), ((1, "other"), (0, "other")), ((2, "other"),)])):
             self.assertEqual(ways_taken(message, EN, arguments), ways)
         self.assertEqual(message, before)

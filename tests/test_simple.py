@@ -27,12 +27,14 @@ class TrimmedTest(unittest.TestCase):
         self.assertEqual(message, before)
 
     def test_nothing_to_leave_out(self):
-        for notation in ("", "a{b}", "{n, plural, one {a} other {}}", "{w, select, x {{n, plural, other {#}}} other {b}}"):
+        for notation in ("", "a{b}", "{n, plural, one {a} other {}}",
+                         "{w, select, x {{n, plural, other {#}}} other {b}}"):
             self.check(notation, notation)
 
     def test_cases_at_each_level(self):
         self.check("{n, plural, few {a} =1 {{n, plural, =1 {b} two {c} other {{w}}}} other {{w, select, x {"
-                   "{w, select, y {d} x {e} other {f}}} other {{w, select, x {g} other {{n, plural, =1 {h} other {#}}}}}}}}",
+                   "{w, select, y {d} x {e} other {f}}} other {{w, select, x {g} other {{n, plural, =1 {h} other "
+                   "{#}}}}}}}}",
                    "{n, plural, =1 {{n, plural, =1 {b} other {}}} other {{w, select, x {"
                    "{w, select, x {e} other {}}} other {{w, select, other {{n, plural, other {#}}}}}}}}")
 
@@ -101,7 +103,8 @@ def slow_shorter(message):
 
 
 def own_number(message):
-    return any([node == ("number",) or node[0] == "select" and any([own_number(case[1]) for case in node[2]] + [own_number(node[3])])
+    return any([node == ("number",) or node[0] == "select"
+                and any([own_number(case[1]) for case in node[2]] + [own_number(node[3])])
                 for node in message])
 
 
@@ -117,7 +120,8 @@ class ShorterTest(unittest.TestCase):
         self.check("a{b}")
 
     def test_cases_and_then_the_other_message(self):
-        self.check("{w, select, x {1} y {2} other {3}}", "{w, select, y {2} other {3}}", "{w, select, x {1} other {3}}", "3")
+        self.check("{w, select, x {1} y {2} other {3}}", "{w, select, y {2} other {3}}", "{w, select, x {1} other {3}}",
+                   "3")
         self.check("{w, select, other {}}", "")
         self.check("{n, plural, offset:1 =2 {1} one {2} other {{w}}}", "{n, plural, offset:1 one {2} other {{w}}}",
                    "{n, plural, offset:1 =2 {1} other {{w}}}", "{w}")
@@ -141,13 +145,15 @@ class ShorterTest(unittest.TestCase):
 
     def test_the_order(self):
         self.check(
-            "{a, select, x {{c, select, other {1}}} other {2}}{b, select, y {{d, select, z {3} other {4}}} other {{e, select, other {5}}}}",
+            "{a, select, x {{c, select, other {1}}} other {2}}"
+            "{b, select, y {{d, select, z {3} other {4}}} other {{e, select, other {5}}}}",
             "{a, select, other {2}}{b, select, y {{d, select, z {3} other {4}}} other {{e, select, other {5}}}}",
             "2{b, select, y {{d, select, z {3} other {4}}} other {{e, select, other {5}}}}",
             "{a, select, x {{c, select, other {1}}} other {2}}{b, select, other {{e, select, other {5}}}}",
             "{a, select, x {{c, select, other {1}}} other {2}}{e, select, other {5}}",
             "{a, select, x {1} other {2}}{b, select, y {{d, select, z {3} other {4}}} other {{e, select, other {5}}}}",
-            "{a, select, x {{c, select, other {1}}} other {2}}{b, select, y {{d, select, other {4}}} other {{e, select, other {5}}}}",
+            "{a, select, x {{c, select, other {1}}} other {2}}"
+            "{b, select, y {{d, select, other {4}}} other {{e, select, other {5}}}}",
             "{a, select, x {{c, select, other {1}}} other {2}}{b, select, y {4} other {{e, select, other {5}}}}",
             "{a, select, x {{c, select, other {1}}} other {2}}{b, select, y {{d, select, z {3} other {4}}} other {5}}")
 
@@ -212,15 +218,22 @@ class SimplifiedTest(unittest.TestCase):
         self.check("{n, plural, =1 {a} one {a} other {c}}", "{n, plural, one {a} other {c}}", RU)
 
     def test_an_exact_key_gives_way_to_its_category(self):
-        self.check("{n, plural, offset:1 =2 {1 a} one {# a} =0 {b} other {b}}", "{n, plural, offset:1 =2 {1 a} other {b}}")
-        self.check("{n, plural, =1 {a} =21 {c} =31 {a} =4 {b} one {a} other {b}}", "{n, plural, =21 {c} one {a} other {b}}", RU)
+        self.check("{n, plural, offset:1 =2 {1 a} one {# a} =0 {b} other {b}}",
+                   "{n, plural, offset:1 =2 {1 a} other {b}}")
+        self.check("{n, plural, offset:2 =3 {1 a} =23 {21 b} one {# a} other {c}}",
+                   "{n, plural, offset:2 =23 {21 b} one {# a} other {c}}", RU)
+        self.check("{n, plural, offset:2 =1 {c} =0 {-2} few {b} other {c}}",
+                   "{n, plural, offset:2 =0 {-2} few {b} other {c}}", RU)
+        self.check("{n, plural, =1 {a} =21 {c} =31 {a} =4 {b} one {a} other {b}}",
+                   "{n, plural, =21 {c} one {a} other {b}}", RU)
 
     def test_numbers_keep_their_plural(self):
         self.check("{n, plural, offset:1 one {#} other {#}}", "{n, plural, offset:1 other {#}}")
         self.check("{n, plural, one {{p, plural, other {#}}} other {{p, plural, other {#}}}}", "{p, plural, other {#}}")
 
     def test_where_a_case_comes_up_alone_counts(self):
-        self.check("{w, select, x {{w}} other {{w, select, y {y} z {a} other {{w}}}}}", "{w, select, z {a} other {{w}}}")
+        self.check("{w, select, x {{w}} other {{w, select, y {y} z {a} other {{w}}}}}",
+                   "{w, select, z {a} other {{w}}}")
         self.check("{n, plural, one {{n}} other {{w, select, x {{n, plural, =5 {5} other {#}}} other {}}}}",
                    "{n, plural, one {{n}} other {{w, select, x {{n, plural, other {#}}} other {}}}}")
 
@@ -241,7 +254,8 @@ class SimplifiedTest(unittest.TestCase):
     def test_many_cases(self):
         cases = "".join([f"={number} {{{number} files}} " for number in range(300)])
         self.check("{n, plural, " + cases + "other {{n} files}}", "{n} files")
-        self.check("{n, plural, " + cases + "one {a} other {# files}}", "{n, plural, =1 {1 files} =21 {21 files} =31 {31 files} "
+        self.check("{n, plural, " + cases + "one {a} other {# files}}",
+                   "{n, plural, =1 {1 files} =21 {21 files} =31 {31 files} "
                    + "".join([f"={n} {{{n} files}} " for n in range(41, 300) if n % 10 == 1 and n % 100 != 11])
                    + "one {a} other {# files}}", RU)
 
