@@ -51,41 +51,29 @@ def first_word(words, tells):
     return word_at(place)
 
 
-def without_same_ends(one, other):
-    """Return two lists without the items at their ends that both of them have."""
-    most = min(len(one), len(other))
-    begin = 0
-    while begin < most and one[begin] == other[begin]:
-        begin += 1
-    end = 0
-    while end < most - begin and one[-1 - end] == other[-1 - end]:
-        end += 1
-    return one[begin:len(one) - end], other[begin:len(other) - end]
+def row_of(joiner, message, category_sets):
+    """Return the marks of the diagrams of the nodes of a message."""
+    return tuple([message_mark(joiner, [node], category_sets) for node in message])
 
 
-def unlike_marks(joiner, one, other, language):
-    """Return the marks of the diagrams of two messages without what both show at their ends."""
+def rows_of(joiner, one, other, language):
+    """Return the marks of the diagrams of the nodes of two messages, a row for each message."""
     category_sets = CategorySets(language)
-    rows = []
-    for message in (one, other):
-        marks = [message_mark(joiner, [node], category_sets) for node in message]
-        rows.append([mark for mark in marks if mark != joiner.empty])
-    # What both show ahead and behind cannot tell them apart, but would make the diagrams greater.
-    return tuple([joiner.joined(row) for row in without_same_ends(rows[0], rows[1])])
+    return row_of(joiner, one, category_sets), row_of(joiner, other, category_sets)
 
 
 def are_alike(one, other, language):
     """Tell whether two messages show the same text for all arguments."""
     # For its error.
     joined_kinds(one, other)
-    first, second = unlike_marks(Joiner(), one, other, language)
-    return first == second
+    joiner = Joiner()
+    return joiner.show_the_same(rows_of(joiner, one, other, language), ())
 
 
-def telling_value(joiner, marks, name, kind, words):
-    """Return the first value of a name with which two diagrams are still not the same."""
+def telling_value(joiner, rows, name, kind, words):
+    """Return the first value of a name with which two rows of diagrams still do not show the same."""
     def tells(value):
-        return not joiner.are_same(marks, ((name, value),))
+        return not joiner.show_the_same(rows, ((name, value),))
     return first_number(tells) if kind == "number" else first_word(words, tells)
 
 
@@ -93,13 +81,13 @@ def telling_arguments(one, other, language):
     """Return the first arguments for which two messages show unlike texts, or None if they are alike."""
     kinds = joined_kinds(one, other)
     joiner = Joiner()
-    marks = unlike_marks(joiner, one, other, language)
-    if marks[0] == marks[1]:
+    rows = rows_of(joiner, one, other, language)
+    if joiner.show_the_same(rows, ()):
         return None
     words = words_by_name(one + other)
     arguments = {}
     for name in kinds:
-        value = telling_value(joiner, marks, name, kinds[name], words.get(name, []))
+        value = telling_value(joiner, rows, name, kinds[name], words.get(name, []))
         arguments[name] = value
-        marks = tuple([joiner.with_value(mark, name, value) for mark in marks])
+        rows = tuple([tuple([joiner.with_value(mark, name, value) for mark in row]) for row in rows])
     return arguments

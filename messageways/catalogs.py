@@ -1,7 +1,6 @@
 """Catalogs: messages by keys, against those of a source, and those that are alike."""
 
-from messageways.alike import joined_kinds
-from messageways.choosing import message_mark
+from messageways.alike import joined_kinds, row_of
 from messageways.counting import CategorySets
 from messageways.errors import BadMessage
 from messageways.joining import Joiner
@@ -50,22 +49,32 @@ def go_together(one, other):
     return True
 
 
+def fitting_group(joiner, messages, rows, groups, key):
+    """Return the first group whose first message goes together with, and is alike with, that of a key, or None."""
+    for group in groups:
+        if go_together(messages[group[0]], messages[key]):
+            if joiner.show_the_same((rows[group[0]], rows[key]), ()):
+                return group
+    return None
+
+
 def same_groups(messages, language):
     """Return the groups of at least two keys of messages that are alike, by their first keys."""
     joiner = Joiner()
     category_sets = CategorySets(language)
-    # By marks of diagrams: the groups of messages that show the same.
-    by_marks = {}
+    rows = {}
+    # By what they show of far arguments, as only messages that show the same there can be alike.
+    by_parts = {}
     groups = []
     for key in sorted(messages):
-        message = messages[key]
-        if not go_together(message, []):
+        if not go_together(messages[key], []):
             continue
-        known = by_marks.setdefault(message_mark(joiner, message, category_sets), [])
-        fitting = [group for group in known if go_together(messages[group[0]], message)]
-        if fitting:
-            fitting[0].append(key)
-        else:
+        rows[key] = row_of(joiner, messages[key], category_sets)
+        known = by_parts.setdefault(joiner.far_parts(rows[key]), [])
+        group = fitting_group(joiner, messages, rows, known, key)
+        if group is None:
             known.append([key])
             groups.append(known[-1])
+        else:
+            group.append(key)
     return [group for group in groups if len(group) > 1]

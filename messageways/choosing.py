@@ -57,8 +57,8 @@ def messages_within(message):
     return found, begins
 
 
-def row_mark(joiner, message, around, inner, category_sets):
-    """Return the mark of a message, from those of the messages directly within it."""
+def row_marks(joiner, message, around, inner, category_sets):
+    """Return the marks of the choices of a message and of what stands between them, from those of their messages."""
     marks = []
     parts = []
     begin = 0
@@ -75,7 +75,7 @@ def row_mark(joiner, message, around, inner, category_sets):
             marks.append(select_mark(joiner, node, inner[begin:end]))
         begin = end
     marks.append(joiner.table.leaf_with(parts, ()))
-    return joiner.joined([mark for mark in marks if mark != joiner.empty])
+    return tuple([mark for mark in marks if mark != joiner.empty])
 
 
 def message_mark(joiner, message, category_sets):
@@ -87,5 +87,5 @@ def message_mark(joiner, message, category_sets):
         end = begins[place + 1] if place + 1 < len(begins) else len(found)
         inner = [marks[one] for one in range(begins[place], end)]
         message, around = found[place]
-        marks[place] = row_mark(joiner, message, around, inner, category_sets)
+        marks[place] = joiner.joined(row_marks(joiner, message, around, inner, category_sets))
     return marks[0]

@@ -1,10 +1,26 @@
 """Joining diagrams, choosing between them, and putting values into them."""
 
-from messageways.branching import ways_on
+from messageways.branching import mark_at, ways_on
+from messageways.parts import row_with
 from messageways.sets import shortest_cycle, turned_back
-from messageways.tables import Table, inner_of, rebuilt
+from messageways.tables import Table, inner_of, is_choosing, rebuilt
 
 EMPTY_LEAF = ("leaf", ())
+
+# After so many steps two rows of diagrams are joined to be compared.
+MOST_STEPS = 500
+
+
+def without_same_ends(one, other):
+    """Return two tuples without the items at their ends that both of them have."""
+    most = min(len(one), len(other))
+    begin = 0
+    while begin < most and one[begin] == other[begin]:
+        begin += 1
+    end = 0
+    while end < most - begin and one[-1 - end] == other[-1 - end]:
+        end += 1
+    return one[begin:len(one) - end], other[begin:len(other) - end]
 
 
 class Joiner:
@@ -117,28 +133,65 @@ class Joiner:
         """Tell whether a diagram is another one with a value put in for a name."""
         if not self.table.is_named(name, (other,)):
             return one == other
-        return self.are_same((one, other), ((name, value),))
-
-    def are_same(self, marks, values):
-        """Tell whether two diagrams are the same with the values of names put in for them."""
         # Only compared, up to the first difference, but not built: what is built just to be
         # compared would in turn be compared with more values put in, and so on.
+        return self.are_same(((one,), (other,)), ((name, value),), None)
+
+    def short_rows(self, rows):
+        """Return two rows of diagrams without those that show nothing, and those at the ends that both have."""
+        one, other = [tuple([mark for mark in row if mark != self.empty]) for row in rows]
+        return without_same_ends(one, other)
+
+    def rows_on(self, rows, values):
+        """Return the rows of diagrams to which two of them lead, each two with values put in for names."""
+        marks = rows[0] + rows[1]
+        size = len(rows[0])
+        ways = ways_on(marks, [self.table.nodes[mark] for mark in marks], values)[3]
+        return [((row[:size], row[size:]), more) for row, more in ways]
+
+    def are_same(self, rows, values, most):
+        """Tell whether two rows of diagrams show the same with values put in for names; None after too many steps."""
         seen = set()
-        ahead = [(marks, values)]
+        ahead = [(rows, values)]
         while ahead:
-            marks, values = ahead.pop()
+            rows, values = ahead.pop()
+            rows = self.short_rows(rows)
+            marks = rows[0] + rows[1]
             values = self.table.values_for(marks, values)
-            if marks[0] == marks[1] or (marks, values) in seen:
+            if not marks or (rows, values) in seen:
                 continue
-            seen.add((marks, values))
-            if not values:
+            seen.add((rows, values))
+            if most is not None and len(seen) > most:
+                return None
+            # Two diagrams that are not the same show unlike texts.
+            if not values and max(len(rows[0]), len(rows[1])) == 1:
                 return False
             if not self.table.are_leaves(marks):
-                nodes = [self.table.nodes[mark] for mark in marks]
-                ahead.extend(ways_on(marks, nodes, values)[3])
-            elif not self.table.show_the_same(marks, values):
+                ahead.extend(self.rows_on(rows, values))
+            elif not self.table.show_the_same(rows, values):
                 return False
         return True
+
+    def show_the_same(self, rows, values):
+        """Tell whether two rows of diagrams show the same for all arguments, with values put in for names."""
+        rows = self.short_rows(rows)
+        same = self.are_same(rows, values, MOST_STEPS)
+        if same is None:
+            # Though there are many ways, there may be few diagrams.
+            marks = [self.joined([self.answered("join", (mark,), values) for mark in row]) for row in rows]
+            same = marks[0] == marks[1]
+        return same
+
+    def far_parts(self, row):
+        """Return the parts that diagrams show if all numbers are one that is far, and all words without a case."""
+        parts = []
+        for mark in row:
+            node = self.table.nodes[mark]
+            while is_choosing(node):
+                mark = mark_at(mark, node, node[1], 10 ** 30 if node[0] == "number" else "")
+                node = self.table.nodes[mark]
+            parts.extend(node[1])
+        return row_with(parts, {})
 
     def joined(self, marks):
         """Return the mark of some diagrams one behind the other."""

@@ -146,10 +146,10 @@ class JournaledBook:
         answer = done(self.book, deed)
         # Undoing without a deed is the only deed that does nothing.
         if deed[0] != "undo" or answer:
-            self.write(record_of(deed))
+            self.write_record(record_of(deed))
         return answer
 
-    def write(self, record):
+    def write_record(self, record):
         """Write a record octet by octet; if the power goes, the book is shut."""
         try:
             for octet in record:

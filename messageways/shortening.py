@@ -1,6 +1,6 @@
 """Which choices can be shortened so that a message still shows the same."""
 
-from messageways.choosing import row_mark
+from messageways.choosing import row_marks
 from messageways.counting import CategorySets
 from messageways.joining import Joiner
 from messageways.languages import category_of
@@ -18,23 +18,25 @@ def taking_over(node, cases, place, language):
 class Comparer:
     """The diagrams of the cases of messages in a language, compared where the cases come up.
 
-    It is enough to compare what takes another one's place with it there: what is shown ahead
+    The messages are trimmed or made of such by shortening, so that all cases that have a key
+    can come up. It is enough to compare what takes another one's place with it there: what is shown ahead
     of both and behind both is the same.
     """
 
     def __init__(self, language):
         self.category_sets = CategorySets(language)
         self.joiner = Joiner()
-        # By cases: the marks of their diagrams.
-        self.marks = {}
+        # By cases: the marks of the diagrams of what stands in them, one behind the other.
+        self.rows = {}
 
     def cases_of_message(self, message):
         """Return a message as a case and the cases within it, and keep the marks of their diagrams."""
         cases = cases_within(message, self.category_sets)
-        self.marks = {}
-        for case in cases[::-1]:
-            inner = [self.marks[one] for place in case.inner for one in case.inner[place]]
-            self.marks[case] = row_mark(self.joiner, case.message, case.plural, inner, self.category_sets)
+        self.rows = {}
+        # The whole message is compared with nothing: joining all of it could take long.
+        for case in cases[:0:-1]:
+            inner = [self.joiner.joined(self.rows[one]) for place in case.inner for one in case.inner[place]]
+            self.rows[case] = row_marks(self.joiner, case.message, case.plural, inner, self.category_sets)
         return cases
 
     def limited(self, mark, name, known):
@@ -50,12 +52,13 @@ class Comparer:
 
     def show_the_same(self, case, other):
         """Tell whether another case shows the same as a case wherever this comes up."""
-        marks = (self.marks[case], self.marks[other])
+        rows = self.joiner.short_rows((self.rows[case], self.rows[other]))
         for name in sorted(case.context):
-            # What is not named in them need not be put in, and they may be the same already.
-            if marks[0] != marks[1] and self.joiner.table.is_named(name, marks):
-                marks = tuple([self.limited(mark, name, case.context[name]) for mark in marks])
-        return marks[0] == marks[1]
+            if self.joiner.table.is_named(name, rows[0] + rows[1]):
+                known = case.context[name]
+                limited = [tuple([self.limited(mark, name, known) for mark in row]) for row in rows]
+                rows = self.joiner.short_rows(limited)
+        return self.joiner.show_the_same(rows, ())
 
     def can_leave_out(self, node, cases, place):
         """Tell whether a case of a choice is as the one that is chosen without it."""

@@ -66,9 +66,9 @@ class Table:
         """Return the parts of leaves one behind the other."""
         return [part for mark in marks for part in self.nodes[mark][1]]
 
-    def show_the_same(self, marks, values):
-        """Tell whether two leaves have the same parts, with values put in for names."""
-        first, second = [row_with(self.nodes[mark][1], dict(values)) for mark in marks]
+    def show_the_same(self, rows, values):
+        """Tell whether two rows of leaves have the same parts, with values put in for names."""
+        first, second = [row_with(self.parts_of(row), dict(values)) for row in rows]
         return first == second
 
     def values_for(self, marks, values):

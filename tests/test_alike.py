@@ -146,6 +146,22 @@ class AlikeTest(unittest.TestCase):
         self.check(many + "{n}" + many, many + "{n, plural, =4 {4} other {#}}" + many, EN, True)
         self.check(many + "{n}" + many, many + "{n, plural, =4 {} other {#}}" + many, EN, False)
 
+    def test_many_choices_in_another_order(self):
+        # So many ways that they cannot be gone through, but few texts.
+        letters = "mqbzaycxdwevfugthsirjpkoln"
+        one = parse_message("".join([f"{{{letter}, select, y {{x}} other {{}}}}" for letter in letters]))
+        self.assertTrue(are_alike(one, one[::-1], EN))
+        self.assertIsNone(telling_arguments(one, one[::-1], EN))
+        other = one[:0:-1] + parse_message("{m, select, y {x} z {x} other {}}")
+        self.assertFalse(are_alike(one, other, EN))
+        self.assertEqual(telling_arguments(one, other, EN), {**{letter: "y" for letter in letters}, "m": "z"})
+
+    def test_many_choices_that_differ(self):
+        many = "".join([f"{{{name}, plural, one {{# a}} few {{# b}} other {{c}}}} " for name in "abcdefghijklmnop"])
+        one, other = parsed(many + "{q}" + many, "{q}" + many + "x" + many)
+        self.assertFalse(are_alike(one, other, RU))
+        self.assertEqual(telling_arguments(one, other, RU), {**{name: 0 for name in "abcdefghijklmnop"}, "q": "a"})
+
     def test_deep_messages(self):
         deep = deep_message(5000, [("show", "a")])
         self.assertTrue(are_alike(deep, deep_message(5002, [("show", "a")]), EN))

@@ -150,6 +150,12 @@ class SameGroupsTest(unittest.TestCase):
     def test_groups_by_their_first_keys(self):
         self.check({"d": "1", "c": "2", "b": "1", "a": "2", "e": "3", "f": "3"}, [["a", "c"], ["b", "d"], ["e", "f"]])
 
+    def test_many_choices(self):
+        many = [f"{{{name}, plural, one {{# a}} few {{# b}} other {{c}}}} " for name in "abcdefghijklmnop"]
+        self.check({"a": "".join(many), "b": "".join(many[::-1]), "c": "".join(many), "d": "x" + "".join(many),
+                    "e": "".join(many[:-1]), "f": "".join(many[:-1]) + "{p, plural, one {{p} a} few {# b} other {c}} "},
+                   [["a", "c", "f"]], RU)
+
     def test_deep_messages(self):
         deep = deep_message(3000, [("show", "a")])
         self.assertEqual(same_groups({"b": deep, "a": deep_message(3002, [("show", "a")])}, EN), [["a", "b"]])

@@ -251,6 +251,16 @@ class SimplifiedTest(unittest.TestCase):
         many = "".join([f"{{{name}, select, a {{c}} b {{b}} other {{{{{name}}}}}}}" for name in "abcdefghijklmnop"])
         self.check(many, many.replace(" b {b}", ""))
 
+    def test_many_choices_within_cases(self):
+        # So many ways that they cannot be gone through.
+        many = "".join([f"{{{name}, plural, =1 {{a}} one {{a}} few {{b}} other {{#}}}}" for name in "abcdefghijklmnop"])
+        short = many.replace("=1 {a} ", "")
+        for notation, expected in (
+                ("{w, select, x {" + many + "} y {!} other {" + many + "!}}",
+                 "{w, select, x {" + short + "} y {!} other {" + short + "!}}"),
+                ("{w, select, x {" + many + "} y {!} other {" + many + "}}", "{w, select, y {!} other {" + short + "}}")):
+            self.assertEqual(format_message(simplified(parse_message(notation), RU)), expected)
+
     def test_many_cases(self):
         cases = "".join([f"={number} {{{number} files}} " for number in range(300)])
         self.check("{n, plural, " + cases + "other {{n} files}}", "{n} files")
